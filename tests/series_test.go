@@ -10,20 +10,6 @@ import (
 	"loop.example/shadowseries/impl"
 )
 
-// unaries are the functions of one series that may fail, DividedPower by each k among them.
-func unaries() []unary {
-	list := []unary{
-		{"InvertSeries", impl.InvertSeries},
-		{"ReverseSeries", impl.ReverseSeries},
-		{"ExponentialOf", impl.ExponentialOf},
-		{"LogarithmOf", impl.LogarithmOf},
-	}
-	for k := range impl.MaxN + 1 {
-		list = append(list, unary{"DividedPower " + strconv.Itoa(k), func(f []int) ([]int, bool) { return impl.DividedPower(f, k) }})
-	}
-	return list
-}
-
 func binaries() []binary {
 	return []binary{
 		{"AddSeries", impl.AddSeries},
@@ -48,6 +34,15 @@ func beginnings() []begins {
 	for k := range impl.MaxN + 1 {
 		power := func(f []int) ([]int, bool) { return impl.DividedPower(f, k) }
 		list = append(list, begins{unary{"DividedPower " + strconv.Itoa(k), power}, [][]int{{0}}})
+	}
+	return list
+}
+
+// unaries are the functions of one series that may fail, DividedPower by each k among them.
+func unaries() []unary {
+	var list []unary
+	for _, b := range beginnings() {
+		list = append(list, b.unary)
 	}
 	return list
 }
