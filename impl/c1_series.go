@@ -33,6 +33,11 @@ func seriesBy(rule func(n int) int) series {
 	return s
 }
 
+// ones returns the series of which all numbers are 1.
+func ones() series {
+	return seriesBy(func(int) int { return 1 })
+}
+
 // choose returns the number of sets of k of n things.
 func choose(n int, k int) int {
 	sets := 1
@@ -223,8 +228,7 @@ func ExponentialOf(f []int) ([]int, bool) {
 	if !beginsWith(f, 0) {
 		return nil, false
 	}
-	ones := seriesBy(func(int) int { return 1 })
-	return ones.of(seriesOf(f...)).list(len(f))
+	return ones().of(seriesOf(f...)).list(len(f))
 }
 
 // LogarithmOf returns the logarithm of a series.

@@ -17,44 +17,70 @@ func roomy(list []int) ([]int, []int) {
 	return memory[:len(list)], memory
 }
 
-// overwrite spoils all the memory that a result reaches.
-func overwrite(list []int) {
+// overwrite spoils all the memory that a list reaches.
+func overwrite(list []int, number int) {
 	list = list[:cap(list)]
 	for i := range list {
-		list[i] = -12345
+		list[i] = number
 	}
 }
 
-// checkMemory makes a call three times: it must change no argument, and share no memory with them or with an earlier result.
-func checkMemory(t *testing.T, name string, call func(arguments [][]int) []int, arguments ...[]int) {
+// whole returns copies of lists with their spare capacity.
+func whole(lists [][]int) [][]int {
+	var all [][]int
+	for _, list := range lists {
+		all = append(all, slices.Clone(list[:cap(list)]))
+	}
+	return all
+}
+
+// checkMemory makes calls that must change no argument, and share no memory with them or with an earlier result,
+// and of which no two lists of a result may share memory.
+func checkMemory(t *testing.T, name string, call func(arguments [][]int) [][]int, arguments ...[]int) {
 	t.Helper()
 	var given, memories, before [][]int
 	for _, a := range arguments {
 		list, memory := roomy(a)
 		given, memories, before = append(given, list), append(memories, memory), append(before, slices.Clone(memory))
 	}
+	lists := slices.Clone(given)
 	unchanged := func(when string) {
 		t.Helper()
 		for i := range memories {
-			if !slices.Equal(memories[i], before[i]) {
+			if !slices.Equal(memories[i], before[i]) || len(given[i]) != len(lists[i]) || &given[i][:1][0] != &lists[i][:1][0] {
 				t.Fatalf("%s of %v changes an argument %s", name, arguments, when)
 			}
 		}
 	}
 	first := call(given)
 	unchanged("by the call")
-	kept := slices.Clone(first)
-	overwrite(first)
+	kept := cloneRows(first)
+	for i := range first {
+		expected := whole(first)
+		overwrite(first[i], -12345-i)
+		overwrite(expected[i], -12345-i)
+		if !sameRows(whole(first), expected) {
+			t.Fatalf("%s of %v = %v, of which two share memory", name, arguments, kept)
+		}
+	}
 	unchanged("by its result")
 	second := call(given)
-	if !slices.Equal(second, kept) {
+	if !sameRows(second, kept) {
 		t.Fatalf("%s of %v = %v, and then %v", name, arguments, kept, second)
 	}
 	for _, memory := range memories {
-		overwrite(memory)
+		overwrite(memory, -54321)
 	}
-	if !slices.Equal(second, kept) {
+	if !sameRows(second, kept) {
 		t.Fatalf("%s of %v keeps memory of an argument", name, arguments)
+	}
+}
+
+// one makes a result of one list of what a function of lists returns.
+func one(call func(a [][]int) ([]int, bool)) func(a [][]int) [][]int {
+	return func(a [][]int) [][]int {
+		list, _ := call(a)
+		return [][]int{list}
 	}
 }
 
@@ -68,16 +94,10 @@ func TestSeriesShareNoMemory(t *testing.T) {
 	}
 	for _, f := range lists {
 		for _, u := range append(unaries(), derive, read, valid) {
-			checkMemory(t, u.name, func(a [][]int) []int {
-				got, _ := u.call(a[0])
-				return got
-			}, f)
+			checkMemory(t, u.name, one(func(a [][]int) ([]int, bool) { return u.call(a[0]) }), f)
 		}
 		for _, b := range binaries() {
-			call := func(a [][]int) []int {
-				got, _ := b.call(a[0], a[1])
-				return got
-			}
+			call := one(func(a [][]int) ([]int, bool) { return b.call(a[0], a[1]) })
 			// the unit, 0 and t give what is there already, and might give it out as it is
 			checkMemory(t, b.name, call, f, f)
 			checkMemory(t, b.name, call, f, make([]int, len(f)))
@@ -86,6 +106,76 @@ func TestSeriesShareNoMemory(t *testing.T) {
 				checkMemory(t, b.name, call, f, unit(len(f)))
 				checkMemory(t, b.name, call, f, line(len(f)))
 			}
+		}
+	}
+}
+
+// ofPair makes lists of a pair that is a result.
+func ofPair(p impl.Pair, _ bool) [][]int { return [][]int{p.G, p.F} }
+
+// checkPairMemory checks all functions of the pairs p and q, and of a list.
+func checkPairMemory(t *testing.T, p impl.Pair, q impl.Pair, h []int) {
+	t.Helper()
+	checkMemory(t, "ArrayOf", func(a [][]int) [][]int { return impl.ArrayOf(pairOf(a[0], a[1])) }, p.G, p.F)
+	checkMemory(t, "ActOn", one(func(a [][]int) ([]int, bool) { return impl.ActOn(pairOf(a[0], a[1]), a[2]) }), p.G, p.F, h)
+	checkMemory(t, "MultiplyPairs", func(a [][]int) [][]int {
+		return ofPair(impl.MultiplyPairs(pairOf(a[0], a[1]), pairOf(a[2], a[3])))
+	}, p.G, p.F, q.G, q.F)
+	checkMemory(t, "InversePair", func(a [][]int) [][]int { return ofPair(impl.InversePair(pairOf(a[0], a[1]))) }, p.G, p.F)
+	checkMemory(t, "ValidPair, IsMirror, RowSums", one(func(a [][]int) ([]int, bool) {
+		r := pairOf(a[0], a[1])
+		return impl.RowSums(r), impl.ValidPair(r) && impl.IsMirror(r)
+	}), p.G, p.F)
+	checkMemory(t, "StepsOf", func(a [][]int) [][]int {
+		along, down, _ := impl.StepsOf(pairOf(a[0], a[1]))
+		return [][]int{along, down}
+	}, p.G, p.F)
+	read := func(rows [][]int) [][]int { return ofPair(impl.PairOf(rows)) }
+	checkMemory(t, "PairOf", read, impl.ArrayOf(p)...)
+	if rows := impl.ArrayOf(p); rows != nil {
+		checkMemory(t, "PairOf", read, changedRows(rows, len(rows))...)
+	}
+}
+
+func TestPairsShareNoMemory(t *testing.T) {
+	for i, two := range twoPairs(samplePairs(34)) {
+		if i%3 == 0 {
+			checkPairMemory(t, two[0], two[1], two[1].G)
+		}
+		if i%10 == 0 {
+			// what changes nothing gives what is there already, and might give it out as it is
+			checkPairMemory(t, two[0], impl.UnitPair(len(two[0].G)), two[0].F)
+			checkPairMemory(t, impl.UnitPair(len(two[0].G)), two[0], two[0].F)
+		}
+	}
+	for _, p := range noPairs() {
+		checkPairMemory(t, p, p, p.G)
+	}
+	for count := range 9 {
+		for _, name := range append(names(), "") {
+			checkMemory(t, "NamedPair", func([][]int) [][]int { return ofPair(impl.NamedPair(name, count)) })
+		}
+		checkMemory(t, "UnitPair", func([][]int) [][]int { return ofPair(impl.UnitPair(count), true) })
+	}
+}
+
+// TestOnePairTwice gives one pair as both arguments, and its series as the list.
+func TestOnePairTwice(t *testing.T) {
+	for _, p := range samplePairs(35) {
+		g, memoryG := roomy(p.G)
+		f, memoryF := roomy(p.F)
+		beforeG, beforeF := slices.Clone(memoryG), slices.Clone(memoryF)
+		two := pairOf(g, f)
+		product, ok1 := impl.MultiplyPairs(two, two)
+		other, ok2 := impl.MultiplyPairs(p, pairOf(slices.Clone(p.G), slices.Clone(p.F)))
+		wantPair(t, "MultiplyPairs twice", p, product, ok1, other, ok2)
+		for _, h := range [][]int{g, f} {
+			list, ok1 := impl.ActOn(two, h)
+			other, ok2 := impl.ActOn(p, slices.Clone(h))
+			want(t, "ActOn", []any{p, h}, list, ok1, other, ok2)
+		}
+		if !slices.Equal(memoryG, beforeG) || !slices.Equal(memoryF, beforeF) {
+			t.Fatalf("an argument of %v is changed", p)
 		}
 	}
 }

@@ -42,16 +42,27 @@ func coefsOf(f []int) coefs {
 	return c
 }
 
-// numbers returns the numbers of c as a series, and whether they are whole and within the limits.
-func (c coefs) numbers() ([]int, bool) {
-	limit := big.NewRat(impl.MaxCoefficient, 1)
+// wholes returns the numbers of c as a series, of any size, and whether they are whole.
+func (c coefs) wholes() ([]int, bool) {
 	list := make([]int, len(c))
 	for k := range c {
 		number := new(big.Rat).Mul(c[k], factorial(k))
-		if !number.IsInt() || new(big.Rat).Abs(number).Cmp(limit) > 0 {
+		if !number.IsInt() || !number.Num().IsInt64() {
 			return nil, false
 		}
 		list[k] = int(number.Num().Int64())
+	}
+	return list, true
+}
+
+// numbers returns the numbers of c as a series, and whether they are whole and within the limits.
+func (c coefs) numbers() ([]int, bool) {
+	list, ok := c.wholes()
+	for _, number := range list {
+		ok = ok && -impl.MaxCoefficient <= number && number <= impl.MaxCoefficient
+	}
+	if !ok {
+		return nil, false
 	}
 	return list, true
 }
