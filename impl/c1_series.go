@@ -38,6 +38,14 @@ func ones() series {
 	return seriesBy(func(int) int { return 1 })
 }
 
+// plusTimes returns a list with another one, taken as often as times, added to it.
+func plusTimes[L ~[MaxN + 1]int](sum L, times int, list L) L {
+	for n, number := range list {
+		sum[n] += times * number
+	}
+	return sum
+}
+
 // choose returns the number of sets of k of n things.
 func choose(n int, k int) int {
 	sets := 1
@@ -75,7 +83,7 @@ func (s series) list(count int) ([]int, bool) {
 
 // plus returns the sum of two series.
 func (s series) plus(o series) series {
-	return seriesBy(func(n int) int { return s[n] + o[n] })
+	return plusTimes(s, 1, o)
 }
 
 // times returns the product of two series.
@@ -121,8 +129,7 @@ func (s series) dividedPower(k int) series {
 func (s series) of(inner series) series {
 	var sum series
 	for k, number := range s {
-		power := inner.dividedPower(k)
-		sum = sum.plus(seriesBy(func(n int) int { return number * power[n] }))
+		sum = plusTimes(sum, number, inner.dividedPower(k))
 	}
 	return sum
 }

@@ -110,54 +110,39 @@ func TestArraysByFractions(t *testing.T) {
 }
 
 func TestActOnByFractions(t *testing.T) {
-	succeeded, failed := 0, 0
+	var calls tally
 	for _, two := range twoPairs(samplePairs(23)) {
 		p := two[0]
 		for _, h := range [][]int{two[1].G, two[1].F, p.G} {
 			list, succeeds := pairCoefsOf(p).act(coefsOf(h))
 			got, ok := impl.ActOn(p, h)
 			want(t, "ActOn", []any{p, h}, got, ok, list, succeeds)
-			if ok {
-				succeeded++
-			} else {
-				failed++
-			}
+			calls.count(ok)
 		}
 	}
-	atLeast(t, succeeded, 1000)
-	atLeast(t, failed, 500)
+	calls.atLeast(t, 1000, 500)
 }
 
 func TestProductsOfPairsByFractions(t *testing.T) {
-	succeeded, failed := 0, 0
+	var calls tally
 	for _, two := range twoPairs(samplePairs(24)) {
 		product, succeeds := pairCoefsOf(two[0]).times(pairCoefsOf(two[1]))
 		got, ok := impl.MultiplyPairs(two[0], two[1])
 		wantPair(t, "MultiplyPairs", two, got, ok, product, succeeds)
-		if ok {
-			succeeded++
-		} else {
-			failed++
-		}
+		calls.count(ok)
 	}
-	atLeast(t, succeeded, 500)
-	atLeast(t, failed, 500)
+	calls.atLeast(t, 500, 500)
 }
 
 func TestInversesOfPairsByFractions(t *testing.T) {
-	succeeded, failed := 0, 0
+	var calls tally
 	for _, p := range samplePairs(25) {
 		inverse, succeeds := pairCoefsOf(p).inverse()
 		got, ok := impl.InversePair(p)
 		wantPair(t, "InversePair", p, got, ok, inverse, succeeds)
-		if ok {
-			succeeded++
-		} else {
-			failed++
-		}
+		calls.count(ok)
 	}
-	atLeast(t, succeeded, 500)
-	atLeast(t, failed, 300)
+	calls.atLeast(t, 500, 300)
 }
 
 // steepPairs returns pairs of which ReverseSeries and InvertSeries often are valid, but not what StepsOf makes with them.

@@ -73,8 +73,12 @@ func everySeries(longest int, low int, high int) [][]int {
 
 // randomSeries returns count series of all lengths, with numbers up to several sizes; the same ones each time.
 func randomSeries(seed int64, count int) [][]int {
+	return randomLists(seed, count, 1, 2, 5, 24, 100, impl.MaxCoefficient)
+}
+
+// randomLists returns count lists of 1..MaxN+1 numbers, each list with numbers up to one of some sizes.
+func randomLists(seed int64, count int, sizes ...int) [][]int {
 	r := rand.New(rand.NewSource(seed))
-	sizes := []int{1, 2, 5, 24, 100, impl.MaxCoefficient}
 	var all [][]int
 	for i := range count {
 		f := make([]int, 1+r.Intn(impl.MaxN+1))
@@ -138,14 +142,28 @@ func noSeries() [][]int {
 // want checks a list and a bool; a list that is not there has to be nil.
 func want(t *testing.T, name string, args any, got []int, ok bool, list []int, succeeds bool) {
 	t.Helper()
+	wantList(t, name, args, got, ok, list, succeeds)
+	if ok && !impl.ValidSeries(got) {
+		t.Fatalf("%s of %v = %v, which is no series", name, args, got)
+	}
+}
+
+// wantPoly checks a list and a bool like want, for a polynomial.
+func wantPoly(t *testing.T, name string, args any, got []int, ok bool, list []int, succeeds bool) {
+	t.Helper()
+	wantList(t, name, args, got, ok, list, succeeds)
+	if ok && !impl.ValidPoly(got) {
+		t.Fatalf("%s of %v = %v, which is no polynomial", name, args, got)
+	}
+}
+
+func wantList(t *testing.T, name string, args any, got []int, ok bool, list []int, succeeds bool) {
+	t.Helper()
 	if ok != succeeds || !slices.Equal(got, list) {
 		t.Fatalf("%s of %v = %v, %v; want %v, %v", name, args, got, ok, list, succeeds)
 	}
 	if !ok && got != nil {
 		t.Fatalf("%s of %v = %v with false; want nil", name, args, got)
-	}
-	if ok && !impl.ValidSeries(got) {
-		t.Fatalf("%s of %v = %v, which is no series", name, args, got)
 	}
 }
 
@@ -162,5 +180,24 @@ func atLeast(t *testing.T, checked int, wanted int) {
 	t.Helper()
 	if checked < wanted {
 		t.Fatalf("only %d calls succeeded; want %d at least", checked, wanted)
+	}
+}
+
+// tally counts the calls that succeed, and those that fail.
+type tally struct{ succeeded, failed int }
+
+func (c *tally) count(ok bool) {
+	if ok {
+		c.succeeded++
+	} else {
+		c.failed++
+	}
+}
+
+// atLeast checks that there were enough calls of both kinds.
+func (c tally) atLeast(t *testing.T, succeeded int, failed int) {
+	t.Helper()
+	if c.succeeded < succeeded || c.failed < failed {
+		t.Fatalf("only %d calls succeeded and %d failed; want %d and %d at least", c.succeeded, c.failed, succeeded, failed)
 	}
 }

@@ -159,6 +159,91 @@ func TestPairsShareNoMemory(t *testing.T) {
 	}
 }
 
+// ofPoly makes the functions of one polynomial that return one.
+func ofPoly() []unary {
+	list := []unary{
+		{"ToFalling", impl.ToFalling},
+		{"DifferencesAt", func(p []int) ([]int, bool) { return impl.DifferencesAt(p), true }},
+		{"ValidPoly, ValueOf", func(p []int) ([]int, bool) {
+			value, ok := impl.ValueOf(p, 2)
+			return []int{value}, ok && impl.ValidPoly(p)
+		}},
+	}
+	for _, c := range []int{0, 1, -impl.MaxPoint, impl.MaxPoint, impl.MaxPoint + 1} {
+		list = append(list, unary{"ShiftPoly", func(p []int) ([]int, bool) { return impl.ShiftPoly(p, c) }})
+	}
+	return list
+}
+
+func TestPolynomialsShareNoMemory(t *testing.T) {
+	for i, p := range append(noPolys(), samplePolys(36)...) {
+		if i%5 != 0 {
+			continue
+		}
+		for _, u := range ofPoly() {
+			checkMemory(t, u.name, one(func(a [][]int) ([]int, bool) { return u.call(a[0]) }), p)
+		}
+		operate := one(func(a [][]int) ([]int, bool) { return impl.OperateOn(a[0], a[1]) })
+		checkMemory(t, "OperateOn", operate, repeated(1, len(p)), p)
+		checkMemory(t, "OperateOn", operate, p, p)
+		if len(p) > 0 {
+			// the unit changes nothing, and the polynomial might be given out as it is
+			checkMemory(t, "OperateOn", operate, unit(len(p)), p)
+		}
+	}
+	for _, two := range withSeries(37)[:500] {
+		checkMemory(t, "OperateOn", one(func(a [][]int) ([]int, bool) { return impl.OperateOn(a[0], a[1]) }), two[0], two[1])
+	}
+}
+
+// checkListMemory checks all functions of a list of polynomials, and of a polynomial.
+func checkListMemory(t *testing.T, list [][]int, p []int) {
+	t.Helper()
+	checkMemory(t, "ValidSequence, IsBinomial", one(func(a [][]int) ([]int, bool) {
+		return nil, impl.ValidSequence(a) && impl.IsBinomial(a)
+	}), list...)
+	checkMemory(t, "ReplacePowers", one(func(a [][]int) ([]int, bool) {
+		return impl.ReplacePowers(a[0], a[1:])
+	}), append([][]int{p}, list...)...)
+}
+
+func TestSequencesShareNoMemory(t *testing.T) {
+	withSequences(38, func(list [][]int, p []int) {
+		checkListMemory(t, list, p)
+		checkListMemory(t, list, unit(len(list)))
+		checkListMemory(t, unitRows(len(p)), p)
+	})
+	for _, list := range noSequences() {
+		checkListMemory(t, list, make([]int, len(list)))
+	}
+	for i, p := range append(noPairs(), samplePairs(39)...) {
+		if i%3 == 0 {
+			checkMemory(t, "SequenceOf", func(a [][]int) [][]int { return impl.SequenceOf(pairOf(a[0], a[1])) }, p.G, p.F)
+		}
+	}
+	for count := range 9 {
+		checkMemory(t, "FallingProducts", func([][]int) [][]int { return impl.FallingProducts(count) })
+	}
+}
+
+// TestOneListInManyPlaces gives one list as the series and the polynomial, and as more than one polynomial of a sequence.
+func TestOneListInManyPlaces(t *testing.T) {
+	for _, p := range samples(39) {
+		list, memory := roomy(p)
+		before := slices.Clone(memory)
+		got, ok1 := impl.OperateOn(list, list)
+		other, ok2 := impl.OperateOn(p, slices.Clone(p))
+		wantPoly(t, "OperateOn twice", p, got, ok1, other, ok2)
+		rows := slices.Repeat([][]int{list}, len(p))
+		got, ok1 = impl.ReplacePowers(list, rows)
+		other, ok2 = impl.ReplacePowers(p, cloneRows(rows))
+		wantPoly(t, "ReplacePowers", p, got, ok1, other, ok2)
+		if impl.IsBinomial(rows) != impl.IsBinomial(cloneRows(rows)) || !slices.Equal(memory, before) {
+			t.Fatalf("%v in many places is changed", p)
+		}
+	}
+}
+
 // TestOnePairTwice gives one pair as both arguments, and its series as the list.
 func TestOnePairTwice(t *testing.T) {
 	for _, p := range samplePairs(35) {
