@@ -244,6 +244,70 @@ func TestOneListInManyPlaces(t *testing.T) {
 	}
 }
 
+// checkPartsMemory checks all functions of two ways to part things, and of a series.
+func checkPartsMemory(t *testing.T, p []int, q []int, f []int) {
+	t.Helper()
+	checkMemory(t, "PartSizes, WeightOfParts", one(func(a [][]int) ([]int, bool) {
+		return impl.PartSizes(a[0]), impl.WeightOfParts(a[0]) > 0
+	}), p)
+	checkMemory(t, "LabelCount", one(func(a [][]int) ([]int, bool) {
+		product, ok := impl.LabelCount(a[0], a[1])
+		return []int{product}, ok
+	}), f, p)
+	checkMemory(t, "IsFiner", one(func(a [][]int) ([]int, bool) { return nil, impl.IsFiner(a[0], a[1]) }), p, q)
+	for _, m := range mergers() {
+		checkMemory(t, m.name, one(func(a [][]int) ([]int, bool) { return m.call(a[0], a[1]) }), p, q)
+	}
+}
+
+func TestPartsShareNoMemory(t *testing.T) {
+	for n := -1; n < 9; n++ {
+		checkMemory(t, "AllPartitions", func([][]int) [][]int { return impl.AllPartitions(n) })
+	}
+	eachTwoWays(impl.MaxN-1, func(p []int, q []int) {
+		checkPartsMemory(t, p, q, repeated(2, len(p)+1))
+	})
+	for i, p := range everyWay(impl.MaxN) {
+		for _, q := range [][]int{p, make([]int, len(p)), ints(0, 1, 2, 3, 4), everyWay(impl.MaxN)[(7*i+5)%52]} {
+			checkPartsMemory(t, p, q, ints(0, 1, -1, 2, -6, 24))
+			checkPartsMemory(t, q, p, ints(600, 2))
+		}
+	}
+	for i, p := range noWays() {
+		if i%20 == 0 {
+			checkPartsMemory(t, p, p, p)
+			checkPartsMemory(t, p, make([]int, len(p)), repeated(1, 6))
+		}
+	}
+}
+
+func TestSumsOverPartsShareNoMemory(t *testing.T) {
+	call := one(func(a [][]int) ([]int, bool) { return impl.SumOverParts(a[0], a[1]) })
+	for _, f := range append(noSeries(), randomSeries(63, 500)...) {
+		checkMemory(t, "SumOverParts", call, f, f)
+		checkMemory(t, "SumOverParts", call, f, line(max(1, len(f)))) // gives f as it is
+		checkMemory(t, "SumOverParts", call, line(max(1, len(f))), f)
+	}
+}
+
+// TestOneWayTwice gives one list as both ways to part things, and as the series and the way.
+func TestOneWayTwice(t *testing.T) {
+	for _, p := range append(waysUpTo(impl.MaxN), samples(64)...) {
+		list, memory := roomy(p)
+		before := slices.Clone(memory)
+		for _, m := range append(mergers(), binary{"SumOverParts", impl.SumOverParts}) {
+			got, ok1 := m.call(list, list)
+			other, ok2 := m.call(p, slices.Clone(p))
+			wantList(t, m.name+" twice", p, got, ok1, other, ok2)
+		}
+		product, ok := impl.LabelCount(list, list[:len(list)/2])
+		wantLabels(t, p, p[:len(p)/2], product, ok)
+		if impl.IsFiner(list, list) != impl.IsFiner(p, slices.Clone(p)) || !slices.Equal(memory, before) {
+			t.Fatalf("%v twice is changed", p)
+		}
+	}
+}
+
 // TestOnePairTwice gives one pair as both arguments, and its series as the list.
 func TestOnePairTwice(t *testing.T) {
 	for _, p := range samplePairs(35) {
