@@ -164,6 +164,15 @@ func beginsWith(f []int, firsts ...int) bool {
 	return false
 }
 
+// textOf returns numbers of any size in decimal, with a comma between two of them.
+func textOf(numbers []int) string {
+	words := make([]string, len(numbers))
+	for i, number := range numbers {
+		words[i] = strconv.Itoa(number)
+	}
+	return strings.Join(words, ",")
+}
+
 // ValidSeries reports whether numbers are a series.
 func ValidSeries(f []int) bool {
 	if len(f) < 1 || len(f) > MaxN+1 {
@@ -253,11 +262,7 @@ func SeriesText(f []int) string {
 	if !ValidSeries(f) {
 		return ""
 	}
-	words := make([]string, len(f))
-	for i, number := range f {
-		words[i] = strconv.Itoa(number)
-	}
-	return strings.Join(words, ",")
+	return textOf(f)
 }
 
 // ParseSeries returns the series of a text.

@@ -308,6 +308,28 @@ func TestOneWayTwice(t *testing.T) {
 	}
 }
 
+func TestTransformsShareNoMemory(t *testing.T) {
+	hankel := unary{"HankelOf", func(f []int) ([]int, bool) { return impl.HankelOf(f), true }}
+	for _, f := range append(noSeries(), samples(65)...) {
+		for _, u := range append(ofList(), hankel) {
+			checkMemory(t, u.name, one(func(a [][]int) ([]int, bool) { return u.call(a[0]) }), f)
+		}
+	}
+	transform := one(func(a [][]int) ([]int, bool) { return impl.TransformBy(pairOf(a[0], a[1]), a[2]) })
+	withLists(66, func(p impl.Pair, list []int) {
+		checkMemory(t, "TransformBy", transform, p.G, p.F, list)
+		checkMemory(t, "TransformBy", transform, unit(len(list)), line(len(list)), list) // gives the list as it is
+	})
+	for _, p := range noPairs() {
+		checkMemory(t, "TransformBy", transform, p.G, p.F, p.G)
+	}
+	for _, s := range sequences() {
+		for n := -1; n < 9; n++ {
+			checkMemory(t, s.name, one(func([][]int) ([]int, bool) { return s.call(n), true }))
+		}
+	}
+}
+
 // TestOnePairTwice gives one pair as both arguments, and its series as the list.
 func TestOnePairTwice(t *testing.T) {
 	for _, p := range samplePairs(35) {
@@ -322,6 +344,9 @@ func TestOnePairTwice(t *testing.T) {
 			list, ok1 := impl.ActOn(two, h)
 			other, ok2 := impl.ActOn(p, slices.Clone(h))
 			want(t, "ActOn", []any{p, h}, list, ok1, other, ok2)
+			list, ok1 = impl.TransformBy(two, h)
+			other, ok2 = impl.TransformBy(p, slices.Clone(h))
+			want(t, "TransformBy", []any{p, h}, list, ok1, other, ok2)
 		}
 		if !slices.Equal(memoryG, beforeG) || !slices.Equal(memoryF, beforeF) {
 			t.Fatalf("an argument of %v is changed", p)

@@ -299,7 +299,7 @@ func TestSequencesAreRows(t *testing.T) {
 	}
 }
 
-// TestFallingProducts is for the promise 32 as well as it can be said without changing every other sign.
+// TestFallingProducts is for the promise 32.
 func TestFallingProducts(t *testing.T) {
 	for _, n := range append(beyond(), 0, -1, 7, 8, 100) {
 		if list := impl.FallingProducts(n); list != nil {
@@ -317,7 +317,8 @@ func TestFallingProducts(t *testing.T) {
 			product = product.timesLinear(-k)
 		}
 		if n > 1 {
-			rows := impl.ArrayOf(pairOf(unit(n), ints(0, 1, -1, 2, -6, 24)[:n]))
+			cycles, _ := impl.NamedPair("cycles", n)
+			rows := impl.ArrayOf(pairOf(unit(n), negative(impl.AlternateOf(cycles.F))))
 			if !sameRows(list, rows) {
 				t.Fatalf("FallingProducts(%d) = %v; want %v", n, list, rows)
 			}
